@@ -1,0 +1,106 @@
+package mac
+
+import "quern/api"
+
+// toldDigests were worked out by another program: keys, salts and personals are of the bytes of rising, data of those of pattern.
+var toldDigests = []struct {
+	kind                           api.Kind
+	n, key, salt, personal, length int
+	want                           string
+}{
+	{api.Big, 64, 0, 0, 0, 0, "786a02f742015903c6c6fd852552d272912f4740e15847618a86e217f71f5419d25e1031afee585313896444934eb04b903a685b1448b755d56f701afe9be2ce"},
+	{api.Big, 64, 0, 0, 0, 3, "a79aa7e7997e452ea35f138d3b44d6f25f39424ce674d9fda0b5e185b5c6ee8ce5c7934c3ed113abcb68f85f0fdaa40f9314a4c478424435e7c348f035397d6f"},
+	{api.Big, 1, 0, 0, 0, 5, "28"},
+	{api.Big, 32, 0, 0, 0, 129, "a22177a5dc3b1b2901a70b7ca49ef9d7f311781d7e34fcd4332db43044fdc5f0"},
+	{api.Big, 64, 1, 0, 0, 0, "7fe2b438e6ae4a434dcea5fd90fa6988fc5da7a1a9c51979171224be0d528e60c7fd37a8aff3824a57c4d22fb0e9b35936735ef27e807b0a031a849a0956cf0a"},
+	{api.Big, 64, 64, 0, 0, 128, "ecba42fef6fd08d561b558f6b642f2d81fa30300cedcf7b43216c92e81fdceee51983c94b4c219ed9e06a3c7c561298e05810f9e7ec681ebb2bf50b8b28a3c9d"},
+	{api.Big, 20, 32, 0, 0, 1, "1295f4bc9d482b1765dfd93da79832007da9268c"},
+	{api.Big, 64, 0, 16, 0, 7, "fda920aae7433e4b0b83e21f2aa7b505f382cc3161239c40eaa0498420be656253be22499418bcc6d9407efce62be03d98197765e5c84422508de9f19eeca9de"},
+	{api.Big, 64, 0, 0, 16, 7, "df935851bdd819a668e3e29a3b8182772be4508b5c1486eacb98af0000f3915a5866b98a5974d76e795a691e7a8b50240169cfee68d89a12185edbc99df02be9"},
+	{api.Big, 64, 0, 1, 1, 7, "61662dc4564aea544f50fd56c77da11f2f895ddcc722760d448c80bf8f97cb38418a6fd7a30fe74e41e0faeaa9dce27042a1faac92253fd16433cf48a7071147"},
+	{api.Big, 64, 0, 15, 2, 127, "2cd3c707bbf2b1561a8d68477f3238bb4c53da49e941e2fd635bb9b0f9abf181b7607f6e72419837acfe57b5427be49665b08eccf109f2c5a7a75f50e98be780"},
+	{api.Big, 64, 64, 16, 16, 256, "81b2630342ab956a36dcdae857a0cef13e9d0ad6858cf56dfb53744c12aeede1de55cf37d7a338b0185b5b10368f4f40ea861effccd288e6fd7848a09b6e0862"},
+	{api.Big, 1, 1, 1, 1, 1, "d5"},
+	{api.Big, 17, 5, 3, 4, 300, "739326d9f4f785671456328f4adc2c831d"},
+	{api.Big, 63, 63, 15, 15, 1000, "1cda84ccc894d766ecc1a5c055aa5dee45aae0f76675e6f52acdbe564efa671d67f34a3a0e0e5ac5e2f3bc3a1764a17c0da6d7daaf591f300ceefde6a17637"},
+	{api.Small, 32, 0, 0, 0, 0, "69217a3079908094e11121d042354a7c1f55b6482ca1a51e1b250dfd1ed0eef9"},
+	{api.Small, 32, 0, 0, 0, 3, "c19fc16e173e841d3417d662711017aa58bfd061593055e2c0f78406238dd01e"},
+	{api.Small, 1, 0, 0, 0, 5, "e9"},
+	{api.Small, 16, 0, 0, 0, 65, "f7c933b5f9f5590f01cec0c406c27acd"},
+	{api.Small, 32, 1, 0, 0, 0, "29f9691fe445d12f36b171eb231c99a00f62c0ba9c618b5ab67535c24eab67fe"},
+	{api.Small, 32, 32, 0, 0, 64, "a0bcd2ca62c2da132630cec185226b4ebb85a3972b3fcc5cca5850c1918e2dda"},
+	{api.Small, 20, 16, 0, 0, 1, "4cce94654afd765d09bd2c58e292cd0e94c37daa"},
+	{api.Small, 32, 0, 8, 0, 7, "5643403346782bacd238a19e3e4e03cc1652ebbe832924ef0d278045e635cdc3"},
+	{api.Small, 32, 0, 0, 8, 7, "3ab4e52c1097b5f482a141cecef306b2e14eed6c656ac4b9b859de3adb27e7e5"},
+	{api.Small, 32, 0, 1, 1, 7, "8d3c7d63a525e6d74f9745486c260127f33386f6e9045affa8a98c0b58a8f459"},
+	{api.Small, 32, 0, 7, 2, 63, "ca6c386cf9692479834a944246df50150f552a208a4a95089600053c9ad9759c"},
+	{api.Small, 32, 32, 8, 8, 128, "a705eb4264311a81155bd72947d5708263f7d0540595617425bf85340fd72169"},
+	{api.Small, 1, 1, 1, 1, 1, "05"},
+	{api.Small, 17, 5, 3, 4, 300, "ccd994bf1bc215d12876c6d5e79722f01d"},
+	{api.Small, 31, 31, 7, 7, 1000, "44d5988e8f9c50efb0a6ad915a72c7dc81eee1a5279bcfb2d51c73fe2dd1af"},
+}
+
+// toldTuples were worked out by another program, without a key and with one of the bytes of rising.
+var toldTuples = []struct {
+	kind   api.Kind
+	n, key int
+	parts  []string
+	want   string
+}{
+	{api.Big, 64, 0, []string{}, "786a02f742015903c6c6fd852552d272912f4740e15847618a86e217f71f5419d25e1031afee585313896444934eb04b903a685b1448b755d56f701afe9be2ce"},
+	{api.Big, 64, 0, []string{""}, "482ae5a29fbe856c7272f2071b8b0f0359ee2d89ff392b8a900643fbd0836eccd067b8bf41909e206c90d45d6e7d8b6686b93ecaee5fe1a9060d87b672101310"},
+	{api.Big, 64, 0, []string{"", ""}, "739a3012ff930845420e90a6eb7289025915575667c214bee93eed65f336a7ab378d8d4edc53e016837de586ce62d0aa831b3b1d77de3883d92313f95663f5f8"},
+	{api.Big, 16, 0, []string{"ab", "c"}, "4826ed043ab3cdec576d8541fa5d5a80"},
+	{api.Big, 16, 0, []string{"a", "bc"}, "f14abc19c330e936bb9c8506d69bac9b"},
+	{api.Big, 16, 3, []string{"abc"}, "69595076814e1d3fa32532ca2612c616"},
+	{api.Big, 64, 64, []string{"", "abc", "", "0123456789012345678901234567890123456789012345678901234567890123456789012345678901234567890123456789012345678901234567890123456789"}, "76263228696472ba635fc3a521c56d4d5225a770e0d77af4e26ec70dbc02e2b0fff0a31fe4fd42fdf0878962739cfe50363cf2bcfa879d085a2383b38bb309cf"},
+	{api.Small, 32, 0, []string{}, "69217a3079908094e11121d042354a7c1f55b6482ca1a51e1b250dfd1ed0eef9"},
+	{api.Small, 32, 0, []string{""}, "50dfdb12f464323c96af88ff5e8d90c5a1e7a04cdcf99d7cbcf9a271f08a766d"},
+	{api.Small, 32, 0, []string{"", ""}, "666480119667c204b51fc08730cc95ba7da1c333fed105df846e54cf0d0451ac"},
+	{api.Small, 16, 0, []string{"ab", "c"}, "a6ad7cf8d5c17bfca41c8054f58600d1"},
+	{api.Small, 16, 0, []string{"a", "bc"}, "4725ce2d1c02d0b1e1d1a15ef8f8393f"},
+	{api.Small, 16, 3, []string{"abc"}, "72842c79a8665b08fcd0c7ba73b38181"},
+	{api.Small, 32, 32, []string{"", "abc", "", "0123456789012345678901234567890123456789012345678901234567890123456789012345678901234567890123456789012345678901234567890123456789"}, "f6674ac6404f8e209386485f3931874da8440177952ff7edd25c697f8d67eb1d"},
+}
+
+// toldSubkeys were worked out by another program; masters are of the bytes of rising.
+var toldSubkeys = []struct {
+	kind      api.Kind
+	n, master int
+	id        uint64
+	context   string
+	want      string
+}{
+	{api.Big, 16, 1, 1, "ctx", "860f99ce3cc6ade619a61a38a8674dda"},
+	{api.Big, 64, 64, 0, "", "2c145ab110c953597aa3a58d21e948b30282d4d0c9c552af9f7ae80dff57fb6b153c407c1fadb60fb703e585c3bcd6aa8be1a997840123ec79c7b79c14b5f3ea"},
+	{api.Big, 1, 64, 0, "ctx", "85"},
+	{api.Big, 64, 64, 18446744073709551615, "0123456789abcdef", "c673ec10c6eb8065b586a6811360d17ad061bf92531e215da5ff6eb31918461e8be9c8c4ed184f3087846523634e0793011ede488b88a21fa679d1bef140bab0"},
+	{api.Big, 64, 16, 72623859790382856, "0123456789abcde", "004bc1afc0831236e071f4e5ff78a2072042956599927919df429b5a369ebe47c946eb8f6e4991f12921a346324f6c7a3a4039c7a9b21c91f94f6efa7dbc3488"},
+	{api.Big, 32, 32, 4294967296, "c", "2753db047d5a48732ba30b70a6ae50df1e38c23de35370812c1e938cf4d26584"},
+	{api.Small, 16, 1, 1, "ctx", "ee3999af2bba9205e2a42e56b04c3fcc"},
+	{api.Small, 32, 32, 0, "", "f4825375fde3a8fca14cb1d1ec3fb9da1ec59b065bbc8bc600f6f9e27b6dfc0c"},
+	{api.Small, 1, 32, 0, "ctx", "8a"},
+	{api.Small, 32, 32, 18446744073709551615, "01234567", "c051783e65bf73951f4b4bc45c9dae92c7927b89a88e2a210d7cd33200e51471"},
+	{api.Small, 32, 16, 72623859790382856, "0123456", "21c7b08e2d46792c760a26ad179d88ee81db7fe2da77bc08fccbc16003405e44"},
+	{api.Small, 32, 32, 4294967296, "c", "7833779d93bd7759f526f5e55f1b73751d62a5e989db257605160505b791d9e3"},
+}
+
+// toldWays were worked out by another program: keys to which ids lead from masters of the bytes of rising.
+var toldWays = []struct {
+	kind    api.Kind
+	master  int
+	context string
+	ids     []uint64
+	want    string
+}{
+	{api.Big, 1, "", []uint64{0}, "7fe2b438e6ae4a434dcea5fd90fa6988fc5da7a1a9c51979171224be0d528e60c7fd37a8aff3824a57c4d22fb0e9b35936735ef27e807b0a031a849a0956cf0a"},
+	{api.Big, 16, "path", []uint64{18446744073709551615}, "5df44cc24f38612d6f4d2f79fe449d734a55eb721b7854073db135a6eae95f0e3926599665df80f7250453d948227af6765c101f5305ddc202cd906c2a81585b"},
+	{api.Big, 64, "path", []uint64{1, 2, 3}, "3c6e9b5b82f6256d00b7243b64b2035e7b079416dc06e508fd9e188f83f7ed4cb1ecff5ad1ac6d48707fb48e0072c48b45b798d68c722f1b247d1a48ea7935c2"},
+	{api.Big, 5, "path", []uint64{3, 2, 1}, "9f615c0475d423069addd57f3655f5ed7cbc34839731e3f3868166bd44b9d5a0b3568c5a3957246b319f82de3e253e124aec25e52c18710e0035414d2822efc9"},
+	{api.Big, 5, "path", []uint64{0, 0, 0, 0, 9223372036854775808}, "2f04abd9fef171eab3879645491fe860641188ab9886fc4699f3d12394a6bce911c5bec379c7392d79dea6414e3b9bb034daa6386f4a198f9c8d23e60efba0c0"},
+	{api.Small, 1, "", []uint64{0}, "29f9691fe445d12f36b171eb231c99a00f62c0ba9c618b5ab67535c24eab67fe"},
+	{api.Small, 16, "path", []uint64{18446744073709551615}, "05891777ba07899b047df504f8636ab283901b98e89a23dfcdeb94d080d89327"},
+	{api.Small, 32, "path", []uint64{1, 2, 3}, "e3001d7a174760069cbf3c8a12cd495c1ee55f012f98c51d56381d7df608fa5b"},
+	{api.Small, 5, "path", []uint64{3, 2, 1}, "1bd905b867607670f350c0a82c630699b9cf8c74f1a23c5501690ca9405c569b"},
+	{api.Small, 5, "path", []uint64{0, 0, 0, 0, 9223372036854775808}, "5ab295094acc95ae7871d0c8f1de6d2e366bb0f419f641ae28908917d06bf7ca"},
+}

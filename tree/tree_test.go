@@ -300,19 +300,30 @@ func TestFoldRefuses(t *testing.T) { // P10.2
 	}
 }
 
-func TestFoldOfTooManyLeaves(t *testing.T) { // Limits: a Small tree has at most 2^48 leaves; P6
-	one := func(tree api.Tree) [][]byte { return [][]byte{make([]byte, tree.Inner)} }
-	small, big := grown(api.Small, 2, 255, 4), grown(api.Big, 2, 255, 4)
-	for _, total := range []uint64{1<<50 + 1, 1 << 63, math.MaxUint64} {
-		b, e := Fold(small, total, one(small))
-		wantNo(t, "Small, too many", b, e, api.ErrLong)
-		b, e = Fold(small, total, nil)
-		wantNo(t, "Small, too many", b, e, api.ErrLong)
-		b, e = Fold(big, total, one(big))
-		wantNo(t, "Big", b, e, api.ErrShape)
+func TestFoldOfTooManyLeaves(t *testing.T) { // P10.2, P6: no list is as long as totals ask with more leaves than a Small tree has (2^48)
+	for _, k := range kinds {
+		for _, leaf := range []uint32{1, 2, 4} {
+			most := uint64(leaf) << 48
+			for _, tree := range []api.Tree{bare(k, 0, 2, leaf), bare(k, 2, 2, leaf), grown(k, 2, 255, leaf), grown(k, 255, 255, leaf)} {
+				right := make([]byte, tree.Inner)
+				for _, total := range []uint64{most - 1, most, most + 1, 1 << 63, math.MaxUint64} {
+					for _, leaves := range [][][]byte{nil, {}, {right}, {right, right}, {nil}, {right[1:]}} {
+						b, e := Fold(tree, total, leaves)
+						wantNo(t, fmt.Sprintf("Fold of %v, %d bytes, %d outputs", tree, total, len(leaves)), b, e, api.ErrShape)
+					}
+				}
+			}
+		}
 	}
-	b, e := Fold(small, 1<<50, one(small))
-	wantNo(t, "Small, just as many as there may be", b, e, api.ErrShape)
+}
+
+func TestFoldOfTooManyLeavesOfNoTree(t *testing.T) { // P10.1, P2: shape's error ahead of all, at totals with too many leaves too
+	for _, f := range faults() {
+		for _, total := range []uint64{1<<48 + 1, 1<<50 + 1, 1 << 63} {
+			b, e := Fold(f.tree, total, nil)
+			wantNo(t, "Fold, "+f.what, b, e, f.why)
+		}
+	}
 }
 
 func TestNilAndEmpty(t *testing.T) { // P3

@@ -160,15 +160,11 @@ func TestLength(t *testing.T) { // P18.1: totals up to MaxTotal, and those above
 				t.Errorf("Length, %s, %d bytes: %d, error %d, want %d", named(x), total, n, e, right)
 			}
 		}
-		for _, total := range []uint64{1<<40 + 1, 1 << 41, 1 << 48, 1<<48 + 1, 1 << 63, mostNumber - 1, mostNumber} {
-			right := api.ErrTotal
-			// Shape's error comes first: a Small tree has no more than 2^48 leaves.
-			if x.Kind == api.Small && (total-1)/leaf >= 1<<48 {
-				right = api.ErrLong
-			}
+		// ErrTotal, however many leaves there are: also where a Small tree could not have so many.
+		for _, total := range []uint64{1<<40 + 1, 1 << 41, 1 << 48, 1<<48 + 1, 1 << 49, 1<<49 + 1, 1<<50 + 1, 1 << 63, mostNumber - 1, mostNumber} {
 			n, e := slice.Length(x, total)
-			if n != 0 || e != right {
-				t.Errorf("Length, %s, %d bytes: %d, error %d, want %d", named(x), total, n, e, right)
+			if n != 0 || e != api.ErrTotal {
+				t.Errorf("Length, %s, %d bytes: %d, error %d, want %d", named(x), total, n, e, api.ErrTotal)
 			}
 		}
 	}
@@ -206,7 +202,7 @@ func TestTreesThatMayNotBe(t *testing.T) { // shape's error ahead of all, of eve
 				t.Errorf("Lay, %s: %x, error %d, want %d", what, got, e, f.why)
 			}
 		}
-		for _, n := range []uint64{0, 5, 1 << 40, 1<<40 + 1, mostNumber} {
+		for _, n := range []uint64{0, 5, 1 << 40, 1<<40 + 1, 1<<48 + 1, mostNumber} {
 			got, e := slice.Length(f.tree, n)
 			if got != 0 || e != f.why {
 				t.Errorf("Length, %s: %d, error %d, want %d", what, got, e, f.why)
